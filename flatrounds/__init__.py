@@ -1,0 +1,1 @@
+"""Flatrounds: programs whose rounds are not nested, decided for all inputs."""
