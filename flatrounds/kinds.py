@@ -1,4 +1,4 @@
-"""What kinds of things there are: judges of numbers, names, deeds and statements.
+"""What kinds of things there are: judges of numbers, indexes, inputs, names, deeds and statements.
 
 Each judge takes any object whatever, so it asks for the kind of a thing ahead of all else.
 """
@@ -15,6 +15,18 @@ def is_integer(thing):
 def is_number(thing):
     """Whether it is an integer from 0 on."""
     return is_integer(thing) and thing >= 0
+
+
+def is_index(thing, many):
+    """Whether it is a number below so many."""
+    return is_number(thing) and thing < many
+
+
+def is_number_tuple(thing, many):
+    """Whether it is a tuple of so many numbers."""
+    if not isinstance(thing, tuple) or len(thing) != many:
+        return False
+    return all([is_number(part) for part in thing])
 
 
 def is_name(thing):

@@ -58,6 +58,16 @@ def _pair_behind(push, deed):
     return (source, more + 1)
 
 
+def pairs_ahead(names, deeds, name):
+    """What a name has ahead of each of the deeds, as the pair of a push; all of theirs are among the right names."""
+    push = _still(names)
+    found = []
+    for deed in deeds:
+        found.append(push[name])
+        push[deed[1]] = _pair_behind(push, deed)
+    return found
+
+
 def pushed(push, numbers):
     """The numbers of all names behind the push."""
     if not is_push(push):
@@ -96,17 +106,8 @@ def many_times(push, many):
         raise NoPush()
     if not is_number(many):
         raise NoNumber()
-    behind = _still(push)
-    power = push
-    left = many
-    # The number may have 40 digits, so the push is doubled instead of being done one by one.
-    while left > 0:
-        if left & 1 == 1:
-            behind = _then(behind, power)
-        left = left // 2
-        if left > 0:
-            power = _then(power, power)
-    return behind
+    powers = Powers(push)
+    return {name: powers.pair(name, many) for name in push}
 
 
 def _met(push, name, known):
@@ -140,46 +141,94 @@ def gain(push, name):
     return sum([push[at][1] for at in ring])
 
 
-def _shape(push):
-    """The length of each name's lead as a dict, and the list of the lengths of all rings.
+class Powers:
+    """A right push made ready for being done many times: where each name stands on its way.
 
-    Each name is gone through once, however long the ways are.
+    Posts tell of each name how many names its way has ahead of a ring or of its end, by what these raise it in all, and
+    the name at which the way comes to the ring, or None. Spots tell of each name of a ring the ring, the sums of what
+    it raises by, gone around twice, and the name's index. Each name is gone through once, however long the ways are.
     """
-    leads = {}
-    rings = []
-    for name in push:
-        met, behind = _met(push, name, leads)
+
+    def __init__(self, push):
+        self.push = push
+        self.posts = {}
+        self.spots = {}
+        for name in push:
+            self._post(name)
+
+    def _post(self, name):
+        met, behind = _met(self.push, name, self.posts)
         path = list(met)
         if behind in met:
             first = met[behind]
-            rings.append(len(path) - first)
-            for at in path[first:]:
-                leads[at] = 0
+            self._spot(path[first:])
             path = path[:first]
-        length = leads.get(behind, 0)
+        ahead, total, entry = (0, 0, None) if behind is None else self.posts[behind]
         for at in reversed(path):
-            length += 1
-            leads[at] = length
-    return (leads, rings)
+            ahead += 1
+            total += self.push[at][1]
+            self.posts[at] = (ahead, total, entry)
+
+    def _spot(self, ring):
+        sums = [0]
+        for at in ring + ring:
+            sums.append(sums[-1] + self.push[at][1])
+        for k, at in enumerate(ring):
+            self.spots[at] = (ring, sums, k)
+            self.posts[at] = (0, 0, at)
+
+    def pair(self, name, many):
+        """The source of a name and what it is raised by, if the push is done so many times."""
+        ahead, total, entry = self.posts[name]
+        if many < ahead:
+            return self._walked(name, many)
+        if entry is None:
+            return (None, total)
+        ring, sums, k = self.spots[entry]
+        rounds, rest = divmod(many - ahead, len(ring))
+        gone = k + rest
+        return (ring[gone % len(ring)], total + rounds * sums[len(ring)] + sums[gone] - sums[k])
+
+    def _walked(self, name, many):
+        more = 0
+        for _ in range(many):
+            name, step = self.push[name]
+            more += step
+        return (name, more)
+
+    def rate(self, name):
+        """By how much the name is raised in as many times as its ring has names, and how many these are."""
+        entry = self.posts[name][2]
+        if entry is None:
+            return (0, 1)
+        ring, sums, _ = self.spots[entry]
+        return (sums[len(ring)], len(ring))
+
+    def longest(self):
+        """The greatest length of a lead."""
+        return max([post[0] for post in self.posts.values()])
+
+    def common(self):
+        """The least common multiple of the lengths of all rings."""
+        found = 1
+        for ring, _, k in self.spots.values():
+            if k == 0:
+                found = lcm(found, len(ring))
+        return found
 
 
 def tail(push):
     """The greatest length of a lead."""
     if not is_push(push):
         raise NoPush()
-    leads, _ = _shape(push)
-    return max(leads.values())
+    return Powers(push).longest()
 
 
 def turn(push):
     """The least common multiple of the lengths of all rings."""
     if not is_push(push):
         raise NoPush()
-    _, rings = _shape(push)
-    common = 1
-    for length in rings:
-        common = lcm(common, length)
-    return common
+    return Powers(push).common()
 
 
 def deeds_of(push, spare):

@@ -3,8 +3,8 @@
 import unittest
 
 from flatrounds.kinds import (
-    is_deed, is_deed_tuple, is_dict_of, is_integer, is_name, is_name_tuple, is_number, is_round_frame,
-    is_statement)
+    is_deed, is_deed_tuple, is_dict_of, is_index, is_integer, is_name, is_name_tuple, is_number, is_number_tuple,
+    is_round_frame, is_statement)
 from oddthings import odder_things
 
 JUDGES = (is_deed, is_deed_tuple, is_integer, is_name, is_name_tuple, is_number, is_round_frame, is_statement)
@@ -23,6 +23,19 @@ class TestKinds(unittest.TestCase):
         for thing in (True, False, None, 1.0, 0j, "1", b"1", (1,), [1]):
             self.assertFalse(is_integer(thing))
             self.assertFalse(is_number(thing))
+
+    def test_indexes_and_tuples_of_numbers(self):
+        for thing in odder_things():
+            right = thing.__class__ is int and thing >= 0
+            self.assertIs(is_index(thing, 10 ** 41), right)
+            self.assertIs(is_index(thing, 0), False)
+            self.assertIs(is_number_tuple((1, thing), 2), right)
+            self.assertIs(is_number_tuple(thing, 1), False)
+        self.assertEqual([is_index(thing, 2) for thing in (0, 1, 2, -1, True)], [True, True, False, False, False])
+        for thing, many in (((), 0), ((0,), 1), ((10 ** 40, 5, 0), 3)):
+            self.assertIs(is_number_tuple(thing, many), True)
+            self.assertIs(is_number_tuple(thing, many + 1), False)
+            self.assertIs(is_number_tuple(list(thing), many), False)
 
     def test_names(self):
         for thing in ("a", "z", "abcdefgh", "zero", "round", "aaaaaaaa"):

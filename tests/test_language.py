@@ -17,8 +17,34 @@ INTERFACE = {
         "is_push": ("thing",), "push_of": ("names", "deeds"), "one_more": ("push", "other"),
         "many_times": ("push", "many"), "pushed": ("push", "numbers"), "way": ("push", "name"),
         "gain": ("push", "name"), "tail": ("push",), "turn": ("push",), "deeds_of": ("push", "spare")},
+    "runs.py": {
+        "results": ("program", "input"), "last": ("program", "input"), "deeds": ("program", "input"),
+        "numbers_at": ("program", "input", "moment"), "next_at": ("program", "input", "moment"),
+        "done": ("program", "input", "place"), "moment_of": ("program", "input", "place", "time"),
+        "first_moment": ("program", "input", "name", "number"), "many_moments": ("program", "input", "name", "number")},
+    "live.py": {"Run": ("program", "input")},
+    "tables.py": {
+        "Table": ("bounds", "measures", "rows"), "value": ("table", "input"), "cell_of": ("table", "input"),
+        "row_of": ("table", "cell"), "cells": ("table",), "stretched": ("table", "bounds", "measures"),
+        "least": ("table",), "is_least": ("table",), "same": ("one", "other")},
+    "tabling.py": {
+        "table_of": ("program",), "table_ahead": ("program", "k"), "count_table": ("program", "place"),
+        "deeds_table": ("program",)},
+    "likeness.py": {
+        "alike": ("program", "other"), "unlike_input": ("program", "other"), "unlike_value": ("one", "other"),
+        "probes": ("bounds", "measures")},
+    "asking.py": {
+        "least_input": ("table", "at", "number"), "more_input": ("table", "one", "other"), "falls": ("table", "at", "k"),
+        "many_inputs": ("table", "at", "number"), "missed": ("table", "at", "most"), "greatest": ("table", "at"),
+        "lowest": ("table", "at"), "equations": ("table",), "same_results": ("table",), "turned_about": ("table",)},
+    "building.py": {
+        "beside": ("one", "other"), "behind": ("table", "other"), "picked": ("table", "lot"),
+        "summed": ("table", "factors"), "lessened": ("table", "at", "number"),
+        "chosen": ("table", "at", "one", "other"), "quotient": ("table", "at", "number")},
 }
-METHODS = {"Program": ("__init__", "__eq__")}
+METHODS = {
+    "Program": ("__init__", "__eq__"), "Table": ("__init__", "__eq__"),
+    "Run": ("__init__", "moment", "numbers", "coming", "go", "back", "till", "till_number", "copy")}
 LIBRARY = {
     "heapq": ("heappush", "heappop", "heapify", "heapreplace", "heappushpop"),
     "math": ("gcd", "lcm", "isqrt", "comb", "perm", "factorial"),
@@ -200,6 +226,25 @@ class TestNames(unittest.TestCase):
                 self.assertIn(node.attr, stored | own | METHODS_OF_VALUES, name)
 
 
+    def test_locals_have_no_names_of_imports_and_classes(self):
+        for name in files():
+            tree = tree_of(name)
+            taken = {alias.name for node in tree.body if isinstance(node, ast.ImportFrom) for alias in node.names}
+            taken |= {node.name for node in tree.body if isinstance(node, ast.ClassDef)}
+            for node in ast.walk(tree):
+                if not isinstance(node, ast.ClassDef):
+                    for bound in bound_names(node):
+                        self.assertNotIn(bound, taken, name)
+
+    def test_methods_and_attributes_of_a_class_have_unlike_names(self):
+        for name, node in nodes():
+            if isinstance(node, ast.ClassDef):
+                methods = [one.name for one in node.body if isinstance(one, ast.FunctionDef)]
+                self.assertEqual(len(methods), len(set(methods)))
+                stored = {one.attr for one in ast.walk(node) if isinstance(one, ast.Attribute) and isinstance(one.ctx, ast.Store)}
+                self.assertFalse(stored & set(methods), (name, node.name))
+
+
 class TestStatements(unittest.TestCase):
     def test_barred_nodes(self):
         for name, node in nodes():
@@ -236,6 +281,27 @@ class TestStatements(unittest.TestCase):
             if isinstance(node, (ast.For, ast.comprehension)):
                 self.assertNotIsInstance(node.iter, (ast.Set, ast.SetComp), name)
                 self.assertNotIn(called(node.iter), ("set", "frozenset"), name)
+
+    def test_loops_do_not_change_what_they_go_over(self):
+        for name, node in nodes():
+            if isinstance(node, ast.For) and isinstance(node.iter, ast.Name):
+                for one in ast.walk(node):
+                    if isinstance(one, ast.Call) and isinstance(one.func, ast.Attribute):
+                        changing = one.func.attr in ("append", "extend", "pop", "insert", "remove", "clear", "update", "sort")
+                        if changing and isinstance(one.func.value, ast.Name):
+                            self.assertNotEqual(one.func.value.id, node.iter.id, (name, node.lineno))
+                    if isinstance(one, ast.Subscript) and not isinstance(one.ctx, ast.Load) and isinstance(one.value, ast.Name):
+                        self.assertNotEqual(one.value.id, node.iter.id, (name, node.lineno))
+
+    def test_one_lambda_in_a_statement(self):
+        for name, node in nodes():
+            if isinstance(node, (ast.Assign, ast.Return, ast.Expr)):
+                self.assertLessEqual(len([one for one in ast.walk(node) if isinstance(one, ast.Lambda)]), 1, (name, node.lineno))
+
+    def test_views_and_ranges_are_iterated_at_once(self):
+        for name, node in nodes():
+            if isinstance(node, (ast.Assign, ast.Return)):
+                self.assertNotIn(called(node.value), ("zip", "enumerate", "range", "reversed", "map", "set"), (name, node.lineno))
 
     def test_unary_and_exponents(self):
         for name, node in nodes():
