@@ -13,9 +13,9 @@ class Program:
     """A program: the names that it is given, those that it tells, and its block of statements."""
 
     def __init__(self, given, told, block):
-        if not is_name_tuple(given) or len(given) > MOST_GIVEN:
+        if not is_given(given):
             raise BadProgram("given")
-        if not is_name_tuple(told) or not 1 <= len(told) <= MOST_TOLD:
+        if not is_told(told):
             raise BadProgram("told")
         wrong = _wrong_part(block)
         if wrong is not None:
@@ -27,6 +27,16 @@ class Program:
     def __eq__(self, other):
         return (isinstance(other, Program) and self.given == other.given
                 and self.told == other.told and self.block == other.block)
+
+
+def is_given(thing):
+    """Whether it is a tuple of names that a program can be given."""
+    return is_name_tuple(thing) and len(thing) <= MOST_GIVEN
+
+
+def is_told(thing):
+    """Whether it is a tuple of names that a program can tell."""
+    return is_name_tuple(thing) and 1 <= len(thing) <= MOST_TOLD
 
 
 def _wrong_part(block):

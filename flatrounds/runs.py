@@ -18,7 +18,7 @@ def results(program, entered):
 
 def last(program, entered):
     """The numbers of all names at the end."""
-    numbers = _begun(program, entered)
+    numbers = numbers_at_first(program, entered)
     for statement in program.block:
         _go_through(numbers, statement)
     return numbers
@@ -26,7 +26,7 @@ def last(program, entered):
 
 def deeds(program, entered):
     """How many deeds are done."""
-    numbers = _begun(program, entered)
+    numbers = numbers_at_first(program, entered)
     total = 0
     for statement in program.block:
         total += _length(numbers, statement)
@@ -34,7 +34,7 @@ def deeds(program, entered):
     return total
 
 
-def _begun(program, entered):
+def numbers_at_first(program, entered):
     """The numbers of all names at first."""
     if not is_number_tuple(entered, len(program.given)):
         raise NoInput()
@@ -97,7 +97,7 @@ def _reached(program, entered, moment):
 
     The last moment lies in the statement behind the last one.
     """
-    numbers = _begun(program, entered)
+    numbers = numbers_at_first(program, entered)
     if not is_number(moment):
         raise NoMoment()
     rest = moment
@@ -137,7 +137,7 @@ def next_at(program, entered, moment):
 
 def schedule(program, entered, place):
     """When the deed at a place is next: the first moment, how far it is from each to the one behind, and how many."""
-    numbers = _begun(program, entered)
+    numbers = numbers_at_first(program, entered)
     if not is_place(program, place):
         raise NoPlace()
     start = 0
@@ -179,7 +179,7 @@ def sightings(program, entered, name, number, since):
 
     The statements' moments are those at which they, or deeds in them, are next; the last moment comes behind all.
     """
-    numbers = _begun(program, entered)
+    numbers = numbers_at_first(program, entered)
     if not isinstance(name, str) or name not in numbers:
         raise NoName()
     if not is_number(number):

@@ -2,22 +2,26 @@
 
 from flatrounds.errors import NoNumber, NoPlace, TooMany
 from flatrounds.kinds import is_index
+from flatrounds.naming import Supply
 from flatrounds.programs import deeds_in, has_round, is_place, names
 from flatrounds.pushes import Powers, push_of
 from flatrounds.tables import MOST_CELLS, least, many_cells, table_of_any, widened
 
-LETTERS = "abcdefghijklmnopqrstuvwxyz"
+
+def table_at_first(given, every):
+    """The least table of the numbers of all names ahead of all statements."""
+    many = len(given)
+    still = (0,) * many
+    units = {name: still[:i] + (1,) + still[i + 1:] for i, name in enumerate(given)}
+    row = tuple([(0, units.get(name, still)) for name in every])
+    return table_of_any(still, (1,) * many, (row,))
 
 
 class Sheet:
     """The least table of the numbers of all names, taken from statement to statement of a block."""
 
-    def __init__(self, given, every):
-        many = len(given)
-        still = (0,) * many
-        units = {name: still[:i] + (1,) + still[i + 1:] for i, name in enumerate(given)}
-        row = tuple([(0, units.get(name, still)) for name in every])
-        self._table = table_of_any(still, (1,) * many, (row,))
+    def __init__(self, table, every):
+        self._table = table
         self._every = every
         self._waiting = []
 
@@ -106,7 +110,7 @@ def _grown_row(row, rates, growth):
 
 def _table_at(given, every, block, k):
     """The least table of the numbers of all names ahead of the statement k; the whole block is gone through."""
-    sheet = Sheet(given, every)
+    sheet = Sheet(table_at_first(given, every), every)
     found = None
     for number, statement in enumerate(block):
         if number == k:
@@ -124,9 +128,13 @@ def _column(table, at):
 def table_of(program):
     """The least table of the results of a program."""
     every = names(program)
-    table = _table_at(program.given, every, program.block, len(program.block))
-    told = [every.index(name) for name in program.told]
-    rows = tuple([tuple([row[at] for at in told]) for row in table.rows])
+    return told_of(_table_at(program.given, every, program.block, len(program.block)), every, program.told)
+
+
+def told_of(table, every, told):
+    """The least table of the results, from that of the numbers of all names at the end."""
+    columns = [every.index(name) for name in told]
+    rows = tuple([tuple([row[at] for at in columns]) for row in table.rows])
     return least(table_of_any(table.bounds, table.measures, rows))
 
 
@@ -151,7 +159,7 @@ def count_table(program, place):
 
 def deeds_table(program):
     """The least table of how many deeds are done."""
-    clock = _further_name(names(program))
+    clock = Supply(names(program)).one()
     every = names(program) + (clock,)
     block = clocked(program.block, clock)
     return _column(_table_at(program.given, every, block, len(block)), len(every) - 1)
@@ -169,14 +177,3 @@ def clocked(block, clock):
         else:
             found.append(statement)
     return tuple(found)
-
-
-def _further_name(every):
-    """The first name that is none of these, of the shortest ones."""
-    fronts = [""]
-    while True:
-        found = [front + letter for front in fronts for letter in LETTERS]
-        for name in found:
-            if name not in every:
-                return name
-        fronts = found
