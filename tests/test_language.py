@@ -2,6 +2,7 @@
 
 import ast
 import builtins
+import importlib
 import os
 import unittest
 
@@ -41,10 +42,28 @@ INTERFACE = {
         "beside": ("one", "other"), "behind": ("table", "other"), "picked": ("table", "lot"),
         "summed": ("table", "factors"), "lessened": ("table", "at", "number"),
         "chosen": ("table", "at", "one", "other"), "quotient": ("table", "at", "number")},
+    "making.py": {
+        "program_for": ("table", "given", "told"), "with_clock": ("program", "name"),
+        "put_behind": ("program", "other")},
+    "trimming.py": {
+        "never": ("program",), "idle": ("program",), "done_input": ("program", "place"), "trimmed": ("program",)},
+    "codes.py": {
+        "Code": ("registers", "steps"), "run_code": ("code", "numbers", "most"), "code_of": ("program",),
+        "registers_of": ("program", "input"), "program_of": ("code", "names", "given", "told")},
+    "strangers.py": {
+        "learned": ("function", "bounds", "measures", "many"), "refuted": ("table", "function", "inputs")},
+    "texts.py": {"program_text": ("program",), "table_text": ("table",), "code_text": ("code",)},
+    "reading.py": {"read_program": ("text",), "read_table": ("text",), "read_code": ("text",)},
+    "desk.py": {"Desk": ()},
 }
 METHODS = {
-    "Program": ("__init__", "__eq__"), "Table": ("__init__", "__eq__"),
-    "Run": ("__init__", "moment", "numbers", "coming", "go", "back", "till", "till_number", "copy")}
+    "Program": ("__init__", "__eq__"), "Table": ("__init__", "__eq__"), "Code": ("__init__", "__eq__"),
+    "Run": ("__init__", "moment", "numbers", "coming", "go", "back", "till", "till_number", "copy"),
+    "Desk": ("__init__", "tell", "undoable")}
+ERRORS = (
+    "RoundError BadProgram NoPlace NoStatement NoNames NoInput NoMoment NoTime NoName NoNumber NoDeeds NoPush OtherNames "
+    "NoNumbers BadTable NoCell NoStretch TooMany OtherShape NoBounds NoIndex NotOne NotUnlike NoIndexes BadCode NotCode "
+    "BadAnswer Falling NoInputs BadText NoLine Unknown NothingDone").split()
 LIBRARY = {
     "heapq": ("heappush", "heappop", "heapify", "heapreplace", "heappushpop"),
     "math": ("gcd", "lcm", "isqrt", "comb", "perm", "factorial"),
@@ -310,6 +329,18 @@ class TestStatements(unittest.TestCase):
 
 
 class TestInterface(unittest.TestCase):
+    def test_errors_are_defined_in_their_own_file(self):
+        self.assertEqual([node.name for node in tree_of("errors.py").body if isinstance(node, ast.ClassDef)], ERRORS)
+
+    def test_each_file_of_the_interface_stands(self):
+        self.assertEqual([name for name in INTERFACE if name not in files()], [])
+
+    def test_names_can_be_imported(self):
+        for name, listed in INTERFACE.items():
+            module = importlib.import_module("flatrounds." + name[:-3])
+            for wanted in listed:
+                self.assertEqual(getattr(module, wanted).__module__, module.__name__)
+
     def test_all_is_defined_in_its_own_file(self):
         for name, listed in INTERFACE.items():
             body = {node.name: node for node in tree_of(name).body if isinstance(node, (ast.FunctionDef, ast.ClassDef))}
