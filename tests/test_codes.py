@@ -17,7 +17,7 @@ from oddthings import LESS, nested, odd_things
 GREAT = 10 ** 40 - 1
 LESS_CODE = Code(4, (("copy", 3, 0), ("less", 3, 5), ("copy", 1, 2), ("more", 2), ("go", 1)))
 NO_STEPS = (
-    (), ("zero",), ("zero", 4), ("zero", -1), ("zero", True), ("zero", None), ("zero", "0"), ("zero", 0, 0), ["zero", 0],
+    (), ("odd",), ("zero",), ("zero", 4), ("zero", -1), ("zero", True), ("zero", None), ("zero", "0"), ("zero", 0, 0), ["zero", 0],
     ("copy", 0),
     ("copy", 0, 4), ("copy", 4, 0), ("copy", 0, False), ("copy", 0, 0, 0), ("more",), ("more", 4), ("more", 0, 0), ("go",),
     ("go", 3),
